@@ -1,0 +1,1 @@
+"""Somenumber: statements over whole numbers."""
