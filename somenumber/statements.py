@@ -11,7 +11,7 @@ def is_plain(statement):
     """Tell whether neither some nor all stands in a statement."""
     if statement[0] in BINDING:
         return False
-    for part in _parts(statement):
+    for part in parts_within(statement):
         if not is_plain(part):
             return False
     return True
@@ -26,21 +26,32 @@ def unknowns(statement):
 
 def is_true(statement, values):
     """Tell whether a plain statement is true under values; else NotPlain, then NoValue."""
-    _refuse_unless_plain(statement)
+    refuse_unless_plain(statement)
     # Ahead of the answer, since a part that does not count for it is never looked at.
-    for name in unknowns(statement):
-        if name not in values:
-            raise NoValue(f"no value is known for {name}")
+    refuse_without_values(unknowns(statement), values)
     return _truth(statement, values)
 
 
 def put(statement, name, other):
     """Tell the plain statement with a sum in the place of an unknown; else NotPlain."""
-    _refuse_unless_plain(statement)
+    refuse_unless_plain(statement)
     return _put_within(statement, name, other)
 
 
-def _parts(statement):
+def refuse_unless_plain(statement):
+    """Raise NotPlain where some or all stands in a statement."""
+    if not is_plain(statement):
+        raise NotPlain("some or all stands in the statement")
+
+
+def refuse_without_values(names, values):
+    """Raise NoValue where one of some names has no value."""
+    for name in names:
+        if name not in values:
+            raise NoValue(f"no value is known for {name}")
+
+
+def parts_within(statement):
     """Tell the statements that stand directly within a statement."""
     kind = statement[0]
     if kind in OVER_SUMS:
@@ -60,13 +71,8 @@ def _find_free(statement, bound, found):
                 found[name] = True
     if statement[0] in BINDING:
         bound = (*bound, statement[1])
-    for part in _parts(statement):
+    for part in parts_within(statement):
         _find_free(part, bound, found)
-
-
-def _refuse_unless_plain(statement):
-    if not is_plain(statement):
-        raise NotPlain("some or all stands in the statement")
 
 
 def _truth(statement, values):

@@ -25,7 +25,11 @@ FUNCTIONS = {
         "unknowns": ["statement"],
         "put": ["statement", "name", "other"],
     },
+    "taking.py": {"straight": ["statement"], "taken": ["name", "statement"], "left": ["statement"]},
+    "telling.py": {"holds": ["statement", "values"], "told": ["name", "statement", "values"]},
+    "notes.py": {"written": ["statement"], "read": ["text"]},
 }
+NAMES = {"notes.py": {"MOST_WITHIN": 40}}
 ALLOWED_LIBRARY = ("heapq", "math", "itertools", "collections", "__future__")
 
 
@@ -52,6 +56,14 @@ class Interface(unittest.TestCase):
             for name, parameters in functions.items():
                 self.assertIn(name, found)
                 self.assertEqual([one.arg for one in found[name].args], parameters, name)
+
+    def test_names_are_assigned_in_their_file(self):
+        for file, names in NAMES.items():
+            body = tree(PACKAGE / file).body
+            found = {node.targets[0].id: node.value.value for node in body
+                     if isinstance(node, ast.Assign) and isinstance(node.value, ast.Constant)}
+            for name, number in names.items():
+                self.assertEqual(found.get(name), number)
 
 
 class Form(unittest.TestCase):
