@@ -1,9 +1,11 @@
 """An unknown taken away: the cases in which some number makes a statement true.
 
-Go down from a number that makes it true, by steps that change no rest. Either the statement stays
-true for ever, or it ends: then there was, less than a step above, a sum in it. So it is enough to
-look at the points less than a step above sums, and at what is true far below, where rests alone
-count. Going up instead is the same with the unknown's opposite in its place.
+Take a number that makes it true, and of each "or" one part alone that is true there: this is one
+way in which the statement is true. Go down from the number by the step that changes no rest in this
+way. Either it stays true for ever, or it ends: then a sum in it lies a step below at most. So it is
+enough to look at the points a step at most above sums, and at what is true far below, where rests
+alone count. The step of each way counts, since a common one may pass over the only number. Going up
+instead is the same with the unknown's opposite in its place.
 
 A point is a pair (by, one) and stands for the sum divided by the number from 1 on, where the number
 goes into it.
@@ -17,7 +19,7 @@ from somenumber.simple import FALSE, TRUE, about, goes, sum_of
 from somenumber.slimming import slimmed
 from somenumber.statements import unknowns
 from somenumber.sums import added, share, times, without
-from somenumber.trees import OTHER, changed, joined, parted, parts_of, period, put_within
+from somenumber.trees import OTHER, changed, joined, parted, parts_of, period, periods, put_within
 
 
 def some_number(name, statement):
@@ -122,12 +124,12 @@ def _far_below(name, one):
 
 
 def _points(name, statement):
-    """Tell the points less than a step above sums: by each, the simple statements of these sums."""
+    """Tell the points a step at most above sums: by each, the simple statements of these sums."""
     ends = {}
     _find_ends(name, statement, ends)
     points = {}
     for one in ends:
-        steps = period(name, _around(statement, {one: True}))
+        steps = periods(name, _around(statement, {one: True}))
         for number in _numbers(name, one, steps):
             points.setdefault(_point(name, one, number), {})[one] = True
     return points
@@ -146,12 +148,14 @@ def _find_ends(name, statement, ends):
 
 
 def _numbers(name, one, steps):
-    """List what the sum of a simple statement may come to where it is true, but not a step below."""
+    """List what the sum of a simple statement may come to where it is true, but not one of some steps below."""
     if one[0] == "nought":
         return [0]
-    last = share(sum_of(one), name) * steps
-    # The contrary of nought ends at one number alone.
-    return list(range(1, last + 1)) if one[0] == "above" else [last]
+    many = share(sum_of(one), name)
+    if one[0] == "above":
+        return list(range(1, many * max(steps) + 1))
+    # The contrary of nought is false at one number alone, so each step tells just one above it.
+    return [many * step for step in steps]
 
 
 def _around(statement, ones):

@@ -96,3 +96,19 @@ def period(name, statement):
     if one[0] != "goes":
         return 1
     return one[1] // gcd(one[1], share(one[2], name))
+
+
+def periods(name, statement):
+    """List the periods, rising, that a statement may have when one part alone is taken of each "or"."""
+    kind = statement[0]
+    if kind not in OTHER:
+        return [period(name, statement)]
+    found = {1: True} if kind == "and" else {}
+    for part in statement[1]:
+        others = periods(name, part)
+        if kind == "and":
+            found = {lcm(one, other): True for one in found for other in others}
+        else:
+            for other in others:
+                found[other] = True
+    return sorted(found)

@@ -218,6 +218,30 @@ class Draw:
         parts = [either(*[self.over_sum(names, most) for _ in range(self.random.randint(2, 3))]) for _ in range(many)]
         return both(*bounds, *parts)
 
+    def barred(self, most):
+        """Of x, beside y and z: some barred numbers, a bound for all, and "or" of parts with a bound and steps of their own."""
+        bars = [no(self.over_x(nought, self.random.choice((1, -1)), most)) for _ in range(self.random.randint(1, 4))]
+        parts = [*bars, self.over_x(above, -1, 1)]
+        for _ in range(self.random.choice((1, 1, 2))):
+            parts.append(either(*[self.stepping(most) for _ in range(self.random.randint(2, 3))]))
+        self.random.shuffle(parts)
+        return both(*parts)
+
+    def stepping(self, most):
+        """A bound for x, or a number barred or told for it, and what goes into another sum."""
+        first = self.over_x(above, 1, most)
+        if self.random.random() < 0.2:
+            first = self.over_x(nought, 1, most)
+        if self.random.random() < 0.2:
+            first = no(first)
+        rests = [goes(divisor, self.random.randint(0, 5), x=1, z=self.random.randint(0, 1)) for divisor in (2, 3, 4)]
+        self.random.shuffle(rests)
+        return both(first, either(*rests[1:]) if self.random.random() < 0.2 else rests[0])
+
+    def over_x(self, kind, way, most):
+        many = way * self.random.randint(1, most)
+        return kind(self.random.randint(-3, 3), **{"x": many, self.random.choice("yz"): -many})
+
     def rests(self, names, deep):
         """A plain statement in which goes alone speaks of sums."""
         if deep == 1:

@@ -9,7 +9,7 @@ from somenumber.simple import contrary, put_simply, simple
 from somenumber.slimming import slimmed
 from somenumber.statements import is_true
 from somenumber.taking import left, straight
-from somenumber.trees import joined, opposite
+from somenumber.trees import joined, opposite, periods
 from tests.reference import (
     FALSE, TRUE, Draw, above, both, depth, either, goes, is_plain_statement, names_in, no, nought, small_values,
 )
@@ -81,6 +81,30 @@ class Simple(unittest.TestCase):
             told = put_simply(simple(one) if one[0] != "not" else no(simple(one[1])), "x", 2, place)
             for values in small_values("yz", range(-6, 7)):
                 self.assertIs(is_true(told, values), is_true(one, {**values, "x": 1 + 2 * values["y"]}))
+
+
+class Periods(unittest.TestCase):
+    def test_of_simple_ones(self):
+        for one, expected in (
+            (above(1, x=2), 1), (no(nought(1, x=1)), 1), (goes(6, 1, x=1), 6), (goes(6, 1, x=4), 3), (goes(6, 1, y=1), 1),
+            (no(goes(4, 1, x=1)), 4),
+        ):
+            self.assertEqual(periods("x", one), [expected])
+
+    def test_of_each_choice_of_parts(self):
+        two, three, four, five = [goes(divisor, 0, x=1, y=1) for divisor in (2, 3, 4, 5)]
+        for one, expected in (
+            (both(two, three, above(0, x=1)), [6]),
+            (either(two, three, above(0, x=1)), [1, 2, 3]),
+            (both(two, either(three, four)), [4, 6]),
+            (both(either(two, three), either(four, five)), [4, 10, 12, 15]),
+            (either(both(two, either(three, five)), four, both(three, four)), [4, 6, 10, 12]),
+            (either(two, no(goes(2, 0, x=1)), both(two, two)), [2]),
+            (TRUE, [1]),
+            (FALSE, []),
+            (both(two, FALSE), []),
+        ):
+            self.assertEqual(periods("x", one), expected)
 
 
 class Slimmed(unittest.TestCase):
