@@ -153,7 +153,7 @@ def _numbers(name, one, steps):
         return [0]
     many = share(sum_of(one), name)
     if one[0] == "above":
-        return list(range(1, many * max(steps) + 1))
+        return list(range(1, many * max(steps) + 1)) if steps else []
     # The contrary of nought is false at one number alone, so each step tells just one above it.
     return [many * step for step in steps]
 

@@ -99,10 +99,14 @@ def period(name, statement):
 
 
 def periods(name, statement):
-    """List the periods, rising, that a statement may have when one part alone is taken of each "or"."""
+    """List, rising, the periods of the ways in which a statement is true: one part alone of each "or".
+
+    Ways in which a nought tells the unknown's one number are left out: nothing moves it there.
+    """
     kind = statement[0]
     if kind not in OTHER:
-        return [period(name, statement)]
+        told = kind == "nought" and stands_in(name, statement)
+        return [] if told else [period(name, statement)]
     found = {1: True} if kind == "and" else {}
     for part in statement[1]:
         others = periods(name, part)

@@ -115,6 +115,44 @@ class OneStep(Barred):
             self.answers(one, {**values, "y": 0})
 
 
+class Told(Barred):
+    """One number is told for x in each part, or in some of them, so that no step is to be gone there."""
+
+    def test_in_each_part(self):
+        rests = both(either(goes(2, 0, x=1, z=1), goes(3, 1, x=1)), either(goes(4, 0, x=1), goes(5, 1, x=1, z=1)))
+        points = either(nought(0, x=1, y=-1), nought(0, x=2, u=-1))
+        one = both(points, no(nought(0, x=1, v=-1)), rests)
+        for values in small_values("uvyz", (-4, 0, 4, 7)):
+            self.answers(one, values)
+
+    def test_in_some_parts(self):
+        near = both(above(1, x=1, y=-1), goes(2, 0, x=1, y=-1))
+        far = both(nought(-1, x=1, w=-1), goes(3, 0, x=1, z=1), no(nought(2, x=1, y=-1)))
+        one = both(either(near, far), no(nought(0, x=1, v=-1)), above(3, x=-1, y=1))
+        for values in small_values("vwyz", (-3, 0, 1, 2)):
+            self.answers(one, values)
+
+    def test_of_another_unknown(self):
+        near = both(above(1, x=1, y=-1), goes(2, 0, x=1, y=-1), nought(0, u=1))
+        far = both(above(0, x=1, w=-1), goes(3, 0, x=1, z=1), nought(0, t=1, u=1))
+        one = both(either(near, far), no(nought(0, x=1, v=-1)), above(3, x=-1, y=1))
+        for values in small_values("tuvw", (-1, 0, 1, 2)):
+            self.answers(one, {**values, "y": 0, "z": 0})
+        self.assertIs(self.answers(one, {"t": 1, "u": 0, "v": 0, "w": FAR, "y": 0, "z": 0}), True)
+
+    def test_many_steps_that_are_not_gone(self):
+        divisors = (2, 3, 5, 7, 11, 13, 17, 19, 23, 29, 31, 37, 41, 43, 47, 53)
+        ors = [either(goes(one, 0, x=1, z=1), goes(other, 0, x=1, w=1)) for one, other in zip(divisors[::2], divisors[1::2])]
+        points = either(nought(0, x=1, y=-1), nought(0, x=1, u=-1))
+        gone = self.take(both(points, no(nought(0, x=1, v=-1)), *ors))
+        for values, expected in (
+            ({"y": 4, "z": -4, "w": 1, "u": 9, "v": 0}, True), ({"y": 4, "z": -4, "w": 1, "u": 9, "v": 4}, False),
+            ({"y": 9, "z": -4, "w": 1, "u": 4, "v": 9}, True), ({"y": 9, "z": 1, "w": -9, "u": 9, "v": 8}, True),
+            ({"y": 9, "z": 1, "w": 1, "u": 8, "v": 7}, False),
+        ):
+            self.assertIs(is_true(gone, values), expected, values)
+
+
 class Reported(Barred):
     nested = both(
         no(no(both(either(above(3, a=1, o=1), goes(4, 2, a=2, h=1, o=2)), above(-1, a=-1, h=-2, o=2)))),

@@ -103,6 +103,11 @@ class Periods(unittest.TestCase):
             (TRUE, [1]),
             (FALSE, []),
             (both(two, FALSE), []),
+            (nought(1, x=1, y=1), []),
+            (nought(1, y=1), [1]),
+            (both(two, nought(1, x=2)), []),
+            (either(two, both(three, nought(1, x=1)), no(nought(1, x=1))), [1, 2]),
+            (both(either(four, nought(0, x=1)), either(three, nought(1, x=1, y=1))), [12]),
         ):
             self.assertEqual(periods("x", one), expected)
 
